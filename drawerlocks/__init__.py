@@ -1,0 +1,1 @@
+"""Drawers that lock one another, for all rows of pulls."""

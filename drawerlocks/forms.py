@@ -1,0 +1,75 @@
+"""The forms of plain values, without a cabinet: drawers, bars, standings and patterns."""
+
+MOST_DRAWERS = 7
+WORDS = ("open", "shut")
+SIGNS = {"open": "o", "shut": "s"}
+STANDING_SIGNS = "os"
+PATTERN_SIGNS = "os?"
+
+
+def is_integer(value):
+    """Whether the value is an integer."""
+    # To Python True and False are integers, to this package they are none.
+    return isinstance(value, int) and not isinstance(value, bool)
+
+
+def is_drawer_count(value):
+    """Whether a cabinet can have so many drawers."""
+    return is_integer(value) and 1 <= value <= MOST_DRAWERS
+
+
+def is_drawer(drawers, value):
+    """Whether the value is one of so many drawers."""
+    return is_integer(value) and 0 <= value < drawers
+
+
+def is_bar(drawers, value):
+    """Whether the value is a bar between two of so many drawers."""
+    if not isinstance(value, tuple) or len(value) != 4:
+        return False
+    drawer, way, other, stand = value
+    if not is_drawer(drawers, drawer) or not is_drawer(drawers, other):
+        return False
+    return drawer != other and way in WORDS and stand in WORDS
+
+
+def is_standing(drawers, value):
+    """Whether the value is a standing of so many drawers."""
+    return has_signs(drawers, value, STANDING_SIGNS)
+
+
+def is_pattern(drawers, value):
+    """Whether the value is a pattern of so many drawers."""
+    return has_signs(drawers, value, PATTERN_SIGNS)
+
+
+def has_signs(drawers, value, signs):
+    """Whether the value is a string of one of these signs for each drawer."""
+    if not isinstance(value, str) or len(value) != drawers:
+        return False
+    return all([sign in signs for sign in value])
+
+
+def first_standing(drawers):
+    """The standing in which all of so many drawers are shut."""
+    return SIGNS["shut"] * drawers
+
+
+def fits(standing, pattern):
+    """Whether the standing fits the pattern."""
+    return all([wanted in ("?", sign) for sign, wanted in zip(standing, pattern)])
+
+
+def hinders(bar, standing, drawer):
+    """Whether the bar stands against the pull of the drawer in the standing."""
+    barred, way, other, stand = bar
+    # A drawer that already stands as the bar's way would leave it is moved the other way.
+    if barred != drawer or standing[drawer] == SIGNS[way]:
+        return False
+    return standing[other] != SIGNS[stand]
+
+
+def moved(standing, drawer):
+    """The standing in which this drawer alone stands the other way."""
+    word = "open" if standing[drawer] == SIGNS["shut"] else "shut"
+    return standing[:drawer] + SIGNS[word] + standing[drawer + 1:]
