@@ -1,7 +1,9 @@
 """Cabinets, and the pulls that go in their standings."""
 
-from drawerlocks.errors import BadBars, BadCabinet, BadDrawer, BadDrawers, BadPattern, BadStanding, Barred
-from drawerlocks.forms import hinders, is_bar, is_drawer, is_drawer_count, is_pattern, is_standing, moved
+from drawerlocks.errors import (
+    BadBars, BadCabinet, BadDrawer, BadDrawers, BadNumber, BadPattern, BadStanding, Barred,
+)
+from drawerlocks.forms import hinders, is_bar, is_drawer, is_drawer_count, is_integer, is_pattern, is_standing, moved
 
 
 class Cabinet:
@@ -39,7 +41,7 @@ def barring(cabinet, standing, drawer):
     check_cabinet(cabinet)
     check_standing(cabinet, standing)
     check_drawer(cabinet, drawer)
-    return [bar for bar in cabinet.bars if hinders(bar, standing, drawer)]
+    return bars_against(cabinet, standing, drawer)
 
 
 def behind(cabinet, standing, drawer):
@@ -59,7 +61,12 @@ def free_drawers(cabinet, standing):
 
 def goes(cabinet, standing, drawer):
     """Whether no bar stands against the pull of the drawer in the standing."""
-    return not any([hinders(bar, standing, drawer) for bar in cabinet.bars])
+    return not bars_against(cabinet, standing, drawer)
+
+
+def bars_against(cabinet, standing, drawer):
+    """As barring, of arguments that were looked at."""
+    return [bar for bar in cabinet.bars if hinders(bar, standing, drawer)]
 
 
 def check_drawers(drawers):
@@ -101,3 +108,9 @@ def check_drawer(cabinet, drawer):
     """BadDrawer for any value that is no drawer of the cabinet."""
     if not is_drawer(cabinet.drawers, drawer):
         raise BadDrawer("no drawer of this cabinet")
+
+
+def check_number(value, most):
+    """BadNumber for any value that is no integer from 0 to most."""
+    if not is_integer(value) or not 0 <= value <= most:
+        raise BadNumber(value)

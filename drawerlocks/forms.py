@@ -1,4 +1,4 @@
-"""The forms of plain values, without a cabinet: drawers, bars, standings and patterns."""
+"""The forms of plain values, without a cabinet: drawers, sets, bars, standings, patterns and tries."""
 
 MOST_DRAWERS = 7
 WORDS = ("open", "shut")
@@ -23,6 +23,18 @@ def is_drawer(drawers, value):
     return is_integer(value) and 0 <= value < drawers
 
 
+def is_set(drawers, value):
+    """Whether the value is an ascending tuple of unlike ones of so many drawers."""
+    if not isinstance(value, tuple) or not all([is_drawer(drawers, drawer) for drawer in value]):
+        return False
+    return all([one < other for one, other in zip(value, value[1:])])
+
+
+def is_pair(drawers, value):
+    """Whether the value is a pair (one, other) of so many drawers, one < other."""
+    return is_set(drawers, value) and len(value) == 2
+
+
 def is_bar(drawers, value):
     """Whether the value is a bar between two of so many drawers."""
     if not isinstance(value, tuple) or len(value) != 4:
@@ -33,6 +45,14 @@ def is_bar(drawers, value):
     return drawer != other and way in WORDS and stand in WORDS
 
 
+def all_bars(drawers):
+    """The ascending list of all bars that can lie between so many drawers."""
+    return [
+        (drawer, way, other, stand)
+        for drawer in range(drawers) for way in WORDS for other in range(drawers) if other != drawer for stand in WORDS
+    ]
+
+
 def is_standing(drawers, value):
     """Whether the value is a standing of so many drawers."""
     return has_signs(drawers, value, STANDING_SIGNS)
@@ -41,6 +61,14 @@ def is_standing(drawers, value):
 def is_pattern(drawers, value):
     """Whether the value is a pattern of so many drawers."""
     return has_signs(drawers, value, PATTERN_SIGNS)
+
+
+def is_try(drawers, value):
+    """Whether the value tells of a pull of one of so many drawers whether it went in a standing."""
+    if not isinstance(value, tuple) or len(value) != 3:
+        return False
+    standing, drawer, went = value
+    return is_standing(drawers, standing) and is_drawer(drawers, drawer) and isinstance(went, bool)
 
 
 def has_signs(drawers, value, signs):

@@ -7,7 +7,7 @@ from drawerlocks.forms import first_standing, fits, is_drawer, moved
 def reached(cabinet):
     """The ascending list of the standings that are reached."""
     check_cabinet(cabinet)
-    return sorted(list(rows_from(cabinet, first_standing(cabinet.drawers))))
+    return sorted(list(first_rows(cabinet)))
 
 
 def row_to(cabinet, pattern):
@@ -40,9 +40,22 @@ def right_row(cabinet, pattern, value):
 def farthest(cabinet):
     """The pair of the most pulls that a reached standing needs, and of the least standing that needs so many."""
     check_cabinet(cabinet)
-    rows = rows_from(cabinet, first_standing(cabinet.drawers))
+    rows = first_rows(cabinet)
     most = max([len(row) for row in rows.values()])
     return most, min([standing for standing, row in rows.items() if len(row) == most])
+
+
+def first_rows(cabinet):
+    """For each standing that is reached its shortest, then least row, these rows in that order."""
+    return rows_from(cabinet, first_standing(cabinet.drawers))
+
+
+def reached_pulls(cabinet):
+    """For each standing that is reached, in that order, the pairs of each drawer that goes and the standing behind."""
+    return {
+        standing: [(drawer, moved(standing, drawer)) for drawer in free_drawers(cabinet, standing)]
+        for standing in first_rows(cabinet)
+    }
 
 
 def rows_from(cabinet, standing):

@@ -1,6 +1,7 @@
 """The interface is as written, and the files keep the rules of form that are plain to see."""
 
 import ast
+import builtins
 import importlib
 import inspect
 import pathlib
@@ -21,7 +22,33 @@ INTERFACE = {
         "right_row": ("cabinet", "pattern", "value"),
         "farthest": ("cabinet",),
     },
+    "together": {
+        "open_together": ("cabinet", "some"),
+        "never_together": ("cabinet",),
+        "most_open": ("cabinet",),
+        "paper": ("cabinet", "some"),
+        "right_paper": ("cabinet", "some", "value"),
+    },
+    "stuck": {
+        "dead_end": ("cabinet",),
+        "no_return": ("cabinet",),
+        "frozen": ("cabinet", "drawer"),
+        "never_opened": ("cabinet",),
+    },
+    "likeness": {
+        "alike": ("one", "other"),
+        "first_apart": ("one", "other"),
+        "needless": ("cabinet",),
+        "fewest_bars": ("cabinet",),
+    },
 }
+# The builtins, and the methods of builtin values, that the package uses; LANGUAGE.md allows some more.
+BUILTINS = {
+    "len", "range", "enumerate", "zip", "min", "max", "sum", "sorted", "int", "str", "bool", "list", "tuple", "dict",
+    "set", "isinstance", "any", "all", "property", "super", "ValueError",
+}
+METHODS = {"append", "count", "extend", "index", "items", "join", "pop", "setdefault", "values", "__init__"}
+NO_NAMES = {"open", "input", "register", "mro", "elements", "law", "id", "hash", "next", "round", "map", "filter"}
 
 
 def package_files():
@@ -37,6 +64,10 @@ class TestInterface(unittest.TestCase):
                     told = getattr(importlib.import_module(f"drawerlocks.{module}"), name)
                     self.assertEqual(told.__module__, f"drawerlocks.{module}")
                     self.assertEqual(tuple(inspect.signature(told).parameters), arguments)
+
+
+def package_trees():
+    return [(path.name, ast.parse(path.read_text())) for path in package_files()]
 
 
 class TestFiles(unittest.TestCase):
@@ -73,6 +104,54 @@ class TestFiles(unittest.TestCase):
                         self.assertEqual(node.level, 0)
                         home = node.module.partition(".")[0]
                         self.assertIn(home, ("drawerlocks", "heapq", "math", "itertools", "collections"))
+
+    def test_builtins_and_methods_that_are_allowed(self):
+        trees = package_trees()
+        own = {
+            node.name for _, tree in trees for node in ast.walk(tree) if isinstance(node, (ast.FunctionDef, ast.ClassDef))
+        }
+        for name, tree in trees:
+            for node in ast.walk(tree):
+                with self.subTest(name=name, line=getattr(node, "lineno", None)):
+                    if isinstance(node, ast.Name) and hasattr(builtins, node.id):
+                        self.assertIn(node.id, BUILTINS)
+                    if isinstance(node, ast.Call) and isinstance(node.func, ast.Attribute):
+                        self.assertIn(node.func.attr, METHODS | own)
+
+    def test_names_that_are_not_used(self):
+        for name, tree in package_trees():
+            for node in ast.walk(tree):
+                told = {getattr(node, field, None) for field in ("id", "name", "arg", "attr") if hasattr(node, field)}
+                with self.subTest(name=name, line=getattr(node, "lineno", None)):
+                    self.assertEqual(told & NO_NAMES, set())
+
+    def test_statements_and_expressions_that_are_not_used(self):
+        barred = (
+            ast.Global, ast.Nonlocal, ast.AsyncFunctionDef, ast.Await, ast.GeneratorExp, ast.Yield, ast.YieldFrom,
+            ast.Lambda, ast.Div, ast.Assert, ast.With, ast.Try, ast.Delete,
+        )
+        for name, tree in package_trees():
+            for node in ast.walk(tree):
+                with self.subTest(name=name, line=getattr(node, "lineno", None)):
+                    self.assertNotIsInstance(node, barred)
+                    if isinstance(node, ast.Constant):
+                        self.assertNotIsInstance(node.value, float)
+                        self.assertFalse(isinstance(node.value, str) and "%" in node.value)
+                    if isinstance(node, ast.FunctionDef):
+                        self.assertLessEqual({part.id for part in node.decorator_list}, {"property"})
+
+    def test_no_two_files_import_from_each_other(self):
+        homes = {}
+        for name, tree in package_trees():
+            homes[name] = [node.module for node in tree.body if isinstance(node, ast.ImportFrom)]
+        homes = {
+            name.removesuffix(".py"): {home.removeprefix("drawerlocks.") for home in told if "drawerlocks." in home}
+            for name, told in homes.items()
+        }
+        while homes:
+            last = {name for name, told in homes.items() if not told & set(homes)}
+            self.assertTrue(last, homes)
+            homes = {name: told for name, told in homes.items() if name not in last}
 
 
 if __name__ == "__main__":

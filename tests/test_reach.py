@@ -1,7 +1,6 @@
 """Promises 1 and 4: rows, and the standings that they lead to."""
 
 import itertools
-import random
 import unittest
 
 from drawerlocks.cabinets import Cabinet
@@ -11,77 +10,12 @@ from samples import (
     CABINETS, FAST, FREE, MANY_BARS, NO_CABINETS, NO_PATTERNS_OF_TWO, NO_STANDINGS_OF_TWO, ONE_OPEN, STAIRS,
     raised_kind,
 )
+from slow import all_patterns, all_standings, slow_end, slow_row, slow_rows, some_cabinets
 
 # Just one of the drawers is opened, and it stays so.
 TRAP = Cabinet(2, (
     (0, "open", 1, "shut"), (0, "shut", 1, "open"), (1, "open", 0, "shut"), (1, "shut", 0, "open"),
 ))
-
-
-def all_bars(drawers):
-    return [
-        (drawer, way, other, stand)
-        for drawer in range(drawers) for way in ("open", "shut") for other in range(drawers) if other != drawer
-        for stand in ("open", "shut")
-    ]
-
-
-def all_standings(drawers):
-    return ["".join(signs) for signs in itertools.product("os", repeat=drawers)]
-
-
-def all_patterns(drawers):
-    return ["".join(signs) for signs in itertools.product("os?", repeat=drawers)]
-
-
-def slow_end(bars, standing, row):
-    """Where the row ends, from the words of the document alone; None if a pull does not go."""
-    stands = ["open" if sign == "o" else "shut" for sign in standing]
-    for drawer in row:
-        goal = "shut" if stands[drawer] == "open" else "open"
-        for barred, way, other, stand in bars:
-            if (barred, way) == (drawer, goal) and stands[other] != stand:
-                return None
-        stands[drawer] = goal
-    return "".join(word[0] for word in stands)
-
-
-def slow_rows(cabinet, standing):
-    """For each standing that can be led to, its first row of all rows, by length, then in ascending order."""
-    rows, longest = {}, 2 ** cabinet.drawers - 1
-    ends = [((), standing)]
-    for _ in range(longest + 1):
-        for row, end in ends:
-            rows.setdefault(end, row)
-        # Among the rows of one length those to the same standing go on alike: the least one stands for them.
-        least = {}
-        for row, end in sorted(ends):
-            least.setdefault(end, row)
-        longer = [row + (drawer,) for row in least.values() for drawer in range(cabinet.drawers)]
-        ends = [(row, slow_end(cabinet.bars, standing, row)) for row in sorted(longer)]
-        ends = [(row, end) for row, end in ends if end is not None]
-    return rows
-
-
-def slow_row(rows, pattern):
-    fitting = [
-        (len(row), row) for end, row in rows.items()
-        if all(wanted == "?" or wanted == sign for wanted, sign in zip(pattern, end))
-    ]
-    return min(fitting)[1] if fitting else None
-
-
-def some_cabinets():
-    """All cabinets of two drawers, and some of more."""
-    for drawers in (1, 2):
-        bars = all_bars(drawers)
-        for many in range(len(bars) + 1):
-            for some in itertools.combinations(bars, many):
-                yield Cabinet(drawers, some)
-    chosen = random.Random(4)
-    for drawers, times, most in ((3, 60, 9), (4, 12, 12)):
-        for _ in range(times):
-            yield Cabinet(drawers, tuple(sorted(chosen.sample(all_bars(drawers), chosen.randint(1, most)))))
 
 
 class TestExamples(unittest.TestCase):

@@ -1,0 +1,88 @@
+"""Promise 13: what holds of several functions together, over many cabinets, each also with a bar less."""
+
+import unittest
+
+from drawerlocks.cabinets import Cabinet, barring, can
+from drawerlocks.likeness import alike, fewest_bars, needless
+from drawerlocks.reach import reached, right_row
+from drawerlocks.stuck import dead_end, no_return
+from drawerlocks.together import most_open, open_together, paper, right_paper
+from samples import CABINETS
+from slow import all_rows, all_sets, all_standings, chosen_cabinets, some_cabinets
+
+
+def with_a_bar_less(cabinet):
+    return [
+        Cabinet(cabinet.drawers, tuple(own for own in cabinet.bars if own != bar)) for bar in cabinet.bars
+    ]
+
+
+def many_cabinets():
+    for cabinet in (*CABINETS, *some_cabinets(), *chosen_cabinets(131, 3, 30, 16), *chosen_cabinets(132, 5, 4, 20)):
+        yield cabinet
+        yield from with_a_bar_less(cabinet)[:2]
+
+
+class TestWhatHolds(unittest.TestCase):
+
+    def test_tables_are_there_just_if_open_together_tells_no_row(self):
+        for cabinet in many_cabinets():
+            for some in all_sets(cabinet.drawers):
+                with self.subTest(drawers=cabinet.drawers, bars=cabinet.bars, some=some):
+                    table = paper(cabinet, some)
+                    row = open_together(cabinet, some)
+                    self.assertEqual(table is None, row is not None)
+                    self.assertIs(right_paper(cabinet, some, table), row is None)
+
+    def test_behind_a_dead_end_there_is_no_return(self):
+        told = 0
+        for cabinet in many_cabinets():
+            with self.subTest(drawers=cabinet.drawers, bars=cabinet.bars):
+                row = dead_end(cabinet)
+                if row is not None:
+                    told += 1
+                    if can(cabinet, "s" * cabinet.drawers):
+                        self.assertIsNotNone(no_return(cabinet))
+                        self.assertLessEqual(len(no_return(cabinet)), len(row))
+                    else:
+                        self.assertEqual(row, ())
+        self.assertGreater(told, 20)
+
+    def test_with_bars_left_out_all_rows_go_that_went(self):
+        for cabinet in (*some_cabinets()[:120], *chosen_cabinets(133, 3, 20, 9)):
+            rows = [row for length in range(5) for row, _ in all_rows(cabinet, length)]
+            for fewer in (*with_a_bar_less(cabinet), Cabinet(cabinet.drawers, ())):
+                self.assertLessEqual(set(reached(cabinet)), set(reached(fewer)))
+                for row in rows:
+                    self.assertIs(right_row(fewer, "?" * cabinet.drawers, row), True)
+
+    def test_a_cabinet_without_bars(self):
+        for drawers in range(1, 8):
+            cabinet = Cabinet(drawers, ())
+            self.assertEqual(reached(cabinet), all_standings(drawers))
+            self.assertEqual(most_open(cabinet), (drawers, tuple(range(drawers))))
+
+    def test_a_bar_that_no_reached_standing_has_against_a_pull_is_needless(self):
+        told = 0
+        for cabinet in many_cabinets():
+            against = [
+                bar for standing in reached(cabinet) for drawer in range(cabinet.drawers)
+                for bar in barring(cabinet, standing, drawer)
+            ]
+            for bar in cabinet.bars:
+                if bar not in against:
+                    told += 1
+                    self.assertIn(bar, needless(cabinet))
+        self.assertGreater(told, 20)
+
+    def test_fewest_bars_has_no_needless_bars_among_themselves(self):
+        for cabinet in many_cabinets():
+            with self.subTest(drawers=cabinet.drawers, bars=cabinet.bars):
+                fewest = Cabinet(cabinet.drawers, fewest_bars(cabinet))
+                self.assertIs(alike(cabinet, fewest), True)
+                self.assertEqual(needless(fewest), [])
+                self.assertEqual(fewest_bars(fewest), fewest.bars)
+
+
+if __name__ == "__main__":
+    unittest.main()
