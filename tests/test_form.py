@@ -41,6 +41,30 @@ INTERFACE = {
         "needless": ("cabinet",),
         "fewest_bars": ("cabinet",),
     },
+    "guards": {
+        "guards": ("cabinet", "pairs", "most"),
+    },
+    "tries": {
+        "possible": ("drawers", "tries"),
+        "sure": ("drawers", "tries"),
+        "simplest": ("drawers", "tries"),
+    },
+    "counts": {
+        "count_rows": ("cabinet", "length"),
+        "count_to": ("cabinet", "length", "pattern"),
+    },
+    "desks": {
+        "Desk": ("cabinet",),
+    },
+}
+CLASSES = {
+    ("cabinets", "Cabinet"): {
+        "drawers": None, "bars": None, "__eq__": ("self", "other"),
+    },
+    ("desks", "Desk"): {
+        "cabinet": None, "standing": None, "pulls": None, "pull": ("self", "drawer"), "free": ("self",),
+        "undo": ("self",), "copy": ("self",), "__len__": ("self",),
+    },
 }
 # The builtins, and the methods of builtin values, that the package uses; LANGUAGE.md allows some more.
 BUILTINS = {
@@ -64,6 +88,18 @@ class TestInterface(unittest.TestCase):
                     told = getattr(importlib.import_module(f"drawerlocks.{module}"), name)
                     self.assertEqual(told.__module__, f"drawerlocks.{module}")
                     self.assertEqual(tuple(inspect.signature(told).parameters), arguments)
+
+
+    def test_each_method_and_property_stands_in_its_class(self):
+        for (module, name), members in CLASSES.items():
+            kind = getattr(importlib.import_module(f"drawerlocks.{module}"), name)
+            for member, arguments in members.items():
+                with self.subTest(name=name, member=member):
+                    told = vars(kind)[member]
+                    if arguments is None:
+                        self.assertIsInstance(told, property)
+                    else:
+                        self.assertEqual(tuple(inspect.signature(told).parameters), arguments)
 
 
 def package_trees():
@@ -107,9 +143,8 @@ class TestFiles(unittest.TestCase):
 
     def test_builtins_and_methods_that_are_allowed(self):
         trees = package_trees()
-        own = {
-            node.name for _, tree in trees for node in ast.walk(tree) if isinstance(node, (ast.FunctionDef, ast.ClassDef))
-        }
+        kinds = (ast.FunctionDef, ast.ClassDef)
+        own = {node.name for _, tree in trees for node in ast.walk(tree) if isinstance(node, kinds)}
         for name, tree in trees:
             for node in ast.walk(tree):
                 with self.subTest(name=name, line=getattr(node, "lineno", None)):

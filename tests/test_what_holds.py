@@ -3,6 +3,7 @@
 import unittest
 
 from drawerlocks.cabinets import Cabinet, barring, can
+from drawerlocks.counts import count_rows, count_to
 from drawerlocks.likeness import alike, fewest_bars, needless
 from drawerlocks.reach import reached, right_row
 from drawerlocks.stuck import dead_end, no_return
@@ -82,6 +83,13 @@ class TestWhatHolds(unittest.TestCase):
                 self.assertIs(alike(cabinet, fewest), True)
                 self.assertEqual(needless(fewest), [])
                 self.assertEqual(fewest_bars(fewest), fewest.bars)
+
+    def test_count_rows_is_the_sum_of_count_to_of_all_standings(self):
+        for cabinet in many_cabinets():
+            for length in (0, 1, 4, 60):
+                with self.subTest(drawers=cabinet.drawers, bars=cabinet.bars, length=length):
+                    told = [count_to(cabinet, length, standing) for standing in all_standings(cabinet.drawers)]
+                    self.assertEqual(count_rows(cabinet, length), sum(told))
 
 
 if __name__ == "__main__":
