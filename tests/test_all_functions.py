@@ -12,7 +12,7 @@ from samples import (
     raised_kind,
 )
 
-# For each kind of argument one that is right for a cabinet of two drawers, some that are wrong, and the error for these.
+# For each kind of argument one that is right for two drawers, some that are wrong, and the error for these.
 KINDS = {
     "cabinet": (ONE_OPEN, NO_CABINETS, errors.BadCabinet),
     "standing": ("os", NO_STANDINGS_OF_TWO, errors.BadStanding),
