@@ -1,6 +1,7 @@
-"""The forms of plain values, without a cabinet: drawers, sets, bars, standings, patterns and tries."""
+"""The forms of plain values, without a cabinet: drawers, sets, bars, standings, patterns, tries and costs."""
 
 MOST_DRAWERS = 7
+MOST_COST = 10 ** 30
 WORDS = ("open", "shut")
 SIGNS = {"open": "o", "shut": "s"}
 STANDING_SIGNS = "os"
@@ -69,6 +70,13 @@ def is_try(drawers, value):
         return False
     standing, drawer, went = value
     return is_standing(drawers, standing) and is_drawer(drawers, drawer) and isinstance(went, bool)
+
+
+def is_costs(drawers, value):
+    """Whether the value is a tuple of a cost for each of so many drawers."""
+    if not isinstance(value, tuple) or len(value) != drawers:
+        return False
+    return all([is_integer(cost) and 0 <= cost <= MOST_COST for cost in value])
 
 
 def has_signs(drawers, value, signs):

@@ -4,7 +4,9 @@ import copy
 import itertools
 import unittest
 
-from drawerlocks import cabinets, counts, errors, guards, likeness, reach, stuck, together, tries
+from drawerlocks import (
+    cabinets, costs, counts, errors, forces, guards, likeness, reach, stuck, texts, together, tries,
+)
 from drawerlocks.cabinets import Cabinet
 from drawerlocks.desks import Desk
 from samples import (
@@ -25,6 +27,13 @@ KINDS = {
     "drawers": (2, (0, 8, True, None, "2", [2]), errors.BadDrawers),
     "tries": (
         [("ss", 0, True)], (None, {}, "", [None], [("ss", 0, 1)], [("ss", 0, True)] * 31), errors.BadTries,
+    ),
+    "costs": (
+        (3, 10 ** 30), (None, 1, [3, 4], (3,), (3, 4, 5), (-1, 0), (10 ** 30 + 1, 0), (True, 1)), errors.BadCosts,
+    ),
+    "text": (
+        "drawers 2\nbar 0 open 1 shut", ("", " ", "drawers 2\n", "drawers 8", "drawers 2\nbar 0 open 0 shut"),
+        errors.InvalidText,
     ),
 }
 FUNCTIONS = (
@@ -54,11 +63,17 @@ FUNCTIONS = (
     (counts.count_rows, "cabinet", "length"),
     (counts.count_to, "cabinet", "length", "pattern"),
     (Desk, "cabinet"),
+    (texts.write, "cabinet"),
+    (texts.read, "text"),
+    (forces.force, "cabinet", "pattern"),
+    (forces.plan, "cabinet", "pattern"),
+    (costs.cheapest, "cabinet", "costs", "pattern"),
 )
-# These take any value as the last argument.
+# These take any value as the last argument; the last things here are all that they may tell of ANY_VALUES.
 OF_ANY_VALUE = (
-    (reach.right_row, "cabinet", "pattern"),
-    (together.right_paper, "cabinet", "some"),
+    (reach.right_row, "cabinet", "pattern", (True, False)),
+    (together.right_paper, "cabinet", "some", (True, False)),
+    (forces.plan_depth, "cabinet", "pattern", (None, 0)),
 )
 ANY_VALUES = (None, True, 0, "", "ss", (), (0,), ("ss",), [], [0], ["ss", ["so"]], {}, {"ss": [0]}, ([], {}))
 
@@ -113,10 +128,10 @@ class TestOrderOfErrors(unittest.TestCase):
             self.check(function, arguments, KINDS[kinds[0]][2])
 
     def test_functions_of_any_value(self):
-        for function, *kinds in OF_ANY_VALUE:
+        for function, *kinds, told in OF_ANY_VALUE:
             for value in ANY_VALUES:
                 with self.subTest(function=function.__name__, value=value):
-                    self.assertIn(function(*right_arguments(kinds), value), (True, False))
+                    self.assertIn(function(*right_arguments(kinds), value), told)
                 for at, kind in enumerate(kinds):
                     for wrong in KINDS[kind][1]:
                         arguments = right_arguments(kinds)
@@ -132,6 +147,9 @@ class TestOrderOfErrors(unittest.TestCase):
                     self.check(reach.row_between, (cabinet, "o" * many, None), errors.BadStanding)
                     self.check(reach.row_to, (cabinet, "?" * many), errors.BadPattern)
                     self.check(counts.count_to, (cabinet, 1, "?" * many), errors.BadPattern)
+                    self.check(forces.force, (cabinet, "?" * many), errors.BadPattern)
+                    self.check(forces.plan_depth, (cabinet, "s" * many, ()), errors.BadPattern)
+                    self.check(costs.cheapest, (cabinet, (1,) * many, "?" * drawers), errors.BadCosts)
             self.check(stuck.frozen, (cabinet, drawers), errors.BadDrawer)
             self.check(Desk(cabinet).pull, (drawers,), errors.BadDrawer)
             self.check(together.paper, (cabinet, (drawers,)), errors.BadSet)
@@ -171,7 +189,7 @@ class TestNothingIsShared(unittest.TestCase):
 
     def test_any_values_stay_as_they_are(self):
         before = copy.deepcopy(ANY_VALUES)
-        for function, *kinds in OF_ANY_VALUE:
+        for function, *kinds, _ in OF_ANY_VALUE:
             for value in ANY_VALUES:
                 function(*right_arguments(kinds), value)
         self.assertEqual(ANY_VALUES, before)

@@ -56,6 +56,18 @@ INTERFACE = {
     "desks": {
         "Desk": ("cabinet",),
     },
+    "texts": {
+        "write": ("cabinet",),
+        "read": ("text",),
+    },
+    "forces": {
+        "force": ("cabinet", "pattern"),
+        "plan_depth": ("cabinet", "pattern", "value"),
+        "plan": ("cabinet", "pattern"),
+    },
+    "costs": {
+        "cheapest": ("cabinet", "costs", "pattern"),
+    },
 }
 CLASSES = {
     ("cabinets", "Cabinet"): {
@@ -71,7 +83,10 @@ BUILTINS = {
     "len", "range", "enumerate", "zip", "min", "max", "sum", "sorted", "int", "str", "bool", "list", "tuple", "dict",
     "set", "isinstance", "any", "all", "property", "super", "ValueError",
 }
-METHODS = {"append", "count", "extend", "index", "items", "join", "pop", "setdefault", "values", "__init__"}
+METHODS = {
+    "append", "count", "extend", "get", "index", "items", "join", "pop", "setdefault", "split", "update", "values",
+    "__init__",
+}
 NO_NAMES = {"open", "input", "register", "mro", "elements", "law", "id", "hash", "next", "round", "map", "filter"}
 
 
@@ -88,7 +103,6 @@ class TestInterface(unittest.TestCase):
                     told = getattr(importlib.import_module(f"drawerlocks.{module}"), name)
                     self.assertEqual(told.__module__, f"drawerlocks.{module}")
                     self.assertEqual(tuple(inspect.signature(told).parameters), arguments)
-
 
     def test_each_method_and_property_stands_in_its_class(self):
         for (module, name), members in CLASSES.items():

@@ -1,15 +1,17 @@
-"""Promise 13: what holds of several functions together, over many cabinets, each also with a bar less."""
+"""Promises 13 and 20: what holds of several functions together, over many cabinets, each also with a bar less."""
 
 import unittest
 
 from drawerlocks.cabinets import Cabinet, barring, can
+from drawerlocks.costs import cheapest
 from drawerlocks.counts import count_rows, count_to
+from drawerlocks.forces import force
 from drawerlocks.likeness import alike, fewest_bars, needless
-from drawerlocks.reach import reached, right_row
+from drawerlocks.reach import reached, right_row, row_to
 from drawerlocks.stuck import dead_end, no_return
 from drawerlocks.together import most_open, open_together, paper, right_paper
 from samples import CABINETS
-from slow import all_rows, all_sets, all_standings, chosen_cabinets, some_cabinets
+from slow import all_patterns, all_rows, all_sets, all_standings, chosen_cabinets, some_cabinets
 
 
 def with_a_bar_less(cabinet):
@@ -90,6 +92,29 @@ class TestWhatHolds(unittest.TestCase):
                 with self.subTest(drawers=cabinet.drawers, bars=cabinet.bars, length=length):
                     told = [count_to(cabinet, length, standing) for standing in all_standings(cabinet.drawers)]
                     self.assertEqual(count_rows(cabinet, length), sum(told))
+
+
+class TestWhatHoldsFurther(unittest.TestCase):
+
+    def test_force_is_never_less_than_the_number_of_pulls_of_row_to(self):
+        more = 0
+        for cabinet in many_cabinets():
+            for pattern in all_patterns(cabinet.drawers)[::4]:
+                needed, row = force(cabinet, pattern), row_to(cabinet, pattern)
+                if needed is not None:
+                    with self.subTest(drawers=cabinet.drawers, bars=cabinet.bars, pattern=pattern):
+                        self.assertIsNotNone(row)
+                        self.assertGreaterEqual(needed, len(row))
+                        more += needed > len(row)
+        self.assertGreater(more, 20)
+
+    def test_if_all_costs_are_one_cheapest_tells_row_to(self):
+        for cabinet in many_cabinets():
+            for pattern in all_patterns(cabinet.drawers)[::4]:
+                with self.subTest(drawers=cabinet.drawers, bars=cabinet.bars, pattern=pattern):
+                    row = row_to(cabinet, pattern)
+                    told = None if row is None else (len(row), row)
+                    self.assertEqual(cheapest(cabinet, (1,) * cabinet.drawers, pattern), told)
 
 
 if __name__ == "__main__":
