@@ -1,7 +1,7 @@
 """Cabinets, and the pulls that go in their standings."""
 
 from drawerlocks.errors import (
-    BadBars, BadCabinet, BadDrawer, BadDrawers, BadNumber, BadPattern, BadStanding, Barred,
+    BadBars, BadCabinet, BadDrawer, BadDrawers, BadNumber, BadPattern, BadStanding, Barred, TooMany,
 )
 from drawerlocks.forms import hinders, is_bar, is_drawer, is_drawer_count, is_integer, is_pattern, is_standing, moved
 
@@ -110,7 +110,13 @@ def check_drawer(cabinet, drawer):
         raise BadDrawer("no drawer of this cabinet")
 
 
-def check_number(value, most):
-    """BadNumber for any value that is no integer from 0 to most."""
-    if not is_integer(value) or not 0 <= value <= most:
+def check_few_drawers(cabinet, most):
+    """TooMany for a cabinet that has more drawers than most."""
+    if cabinet.drawers > most:
+        raise TooMany(most)
+
+
+def check_number(value, least, most):
+    """BadNumber for any value that is no integer from least to most."""
+    if not is_integer(value) or not least <= value <= most:
         raise BadNumber(value)

@@ -10,14 +10,14 @@ MOST_PULLS = 60
 def count_rows(cabinet, length):
     """The number of rows of so many pulls."""
     check_cabinet(cabinet)
-    check_number(length, MOST_PULLS)
+    check_number(length, 0, MOST_PULLS)
     return sum(list(counts_by_end(cabinet, length).values()))
 
 
 def count_to(cabinet, length, pattern):
     """The number of rows of so many pulls that lead to standings that fit the pattern."""
     check_cabinet(cabinet)
-    check_number(length, MOST_PULLS)
+    check_number(length, 0, MOST_PULLS)
     check_pattern(cabinet, pattern)
     counts = counts_by_end(cabinet, length)
     return sum([many for standing, many in counts.items() if fits(standing, pattern)])

@@ -1,4 +1,4 @@
-"""The forms of plain values, without a cabinet: drawers, sets, bars, standings, patterns, tries and costs."""
+"""The forms of plain values, without a cabinet: drawers, sets, bars, standings, patterns, tries, costs, orders."""
 
 MOST_DRAWERS = 7
 MOST_COST = 10 ** 30
@@ -77,6 +77,13 @@ def is_costs(drawers, value):
     if not isinstance(value, tuple) or len(value) != drawers:
         return False
     return all([is_integer(cost) and 0 <= cost <= MOST_COST for cost in value])
+
+
+def is_order(drawers, value):
+    """Whether the value is a tuple of all of so many drawers, each once."""
+    if not isinstance(value, tuple) or not all([is_drawer(drawers, drawer) for drawer in value]):
+        return False
+    return sorted(value) == list(range(drawers))
 
 
 def has_signs(drawers, value, signs):

@@ -2,8 +2,8 @@
 
 from itertools import combinations
 
-from drawerlocks.cabinets import check_cabinet, check_number
-from drawerlocks.errors import BadPairs, TooMany
+from drawerlocks.cabinets import check_cabinet, check_few_drawers, check_number
+from drawerlocks.errors import BadPairs
 from drawerlocks.forms import all_bars, first_standing, hinders, is_pair
 from drawerlocks.reach import reached_pulls
 from drawerlocks.together import any_fits, open_pattern
@@ -15,10 +15,9 @@ MOST_ADDED = 2
 def guards(cabinet, pairs, most):
     """The ascending list of the smallest tuples of added bars with which no pair is open together at any time."""
     check_cabinet(cabinet)
-    if cabinet.drawers > MOST_GUARDED:
-        raise TooMany(MOST_GUARDED)
+    check_few_drawers(cabinet, MOST_GUARDED)
     check_pairs(cabinet, pairs)
-    check_number(most, MOST_ADDED)
+    check_number(most, 0, MOST_ADDED)
     spare = [bar for bar in all_bars(cabinet.drawers) if bar not in cabinet.bars]
     pulls = reached_pulls(cabinet)
     apart = [open_pattern(cabinet, pair) for pair in pairs]

@@ -5,7 +5,8 @@ import itertools
 import unittest
 
 from drawerlocks import (
-    cabinets, costs, counts, errors, forces, guards, likeness, reach, stuck, texts, together, tries,
+    cabinets, costs, counts, errors, forces, guards, likeness, names, reach, rests, rings, seen, stuck, texts, together,
+    tries,
 )
 from drawerlocks.cabinets import Cabinet
 from drawerlocks.desks import Desk
@@ -35,6 +36,12 @@ KINDS = {
         "drawers 2\nbar 0 open 1 shut", ("", " ", "drawers 2\n", "drawers 8", "drawers 2\nbar 0 open 0 shut"),
         errors.InvalidText,
     ),
+    "seen": (
+        [None, 0], (None, 0, "", {}, [2], [None, True], (0, -1), [[0]], ("0",), [None] * 61, [2] * 61), errors.BadSeen,
+    ),
+    "far": (10 ** 30, (-1, 10 ** 30 + 1, True, None, "1", [1]), errors.BadNumber),
+    "divisor": (7, (0, -1, 10 ** 9 + 1, True, None, "7", [7]), errors.BadNumber),
+    "order": ((1, 0), (None, 1, "10", [1, 0], (1,), (0, 1, 2), (0, 0), (0, True), (1, 2)), errors.BadOrder),
 }
 FUNCTIONS = (
     (cabinets.can, "cabinet", "standing"),
@@ -68,6 +75,16 @@ FUNCTIONS = (
     (forces.force, "cabinet", "pattern"),
     (forces.plan, "cabinet", "pattern"),
     (costs.cheapest, "cabinet", "costs", "pattern"),
+    (rings.ring_at, "cabinet", "standing"),
+    (rings.first_ring, "cabinet"),
+    (rings.longest_row, "cabinet"),
+    (seen.fits_many, "cabinet", "seen"),
+    (seen.first_fit, "cabinet", "seen"),
+    (seen.stands_after, "cabinet", "seen"),
+    (seen.sure_pulls, "cabinet", "seen"),
+    (rests.count_rest, "cabinet", "far", "divisor"),
+    (names.renamed, "cabinet", "order"),
+    (names.keeping, "cabinet"),
 )
 # These take any value as the last argument; the last things here are all that they may tell of ANY_VALUES.
 OF_ANY_VALUE = (
@@ -94,6 +111,8 @@ def lists_returned(cabinet):
         (likeness.needless, cabinet),
         (tries.possible, cabinet.drawers, [(first, 0, True)]),
         (tries.sure, cabinet.drawers, [(first, 0, True)]),
+        (seen.stands_after, cabinet, [None, 0]),
+        (names.keeping, cabinet),
     ]
     if cabinet.drawers <= 4:
         calls.append((guards.guards, cabinet, [], 2))
@@ -145,14 +164,17 @@ class TestOrderOfErrors(unittest.TestCase):
                 if many != drawers:
                     self.check(cabinets.can, (cabinet, "s" * many), errors.BadStanding)
                     self.check(reach.row_between, (cabinet, "o" * many, None), errors.BadStanding)
+                    self.check(rings.ring_at, (cabinet, "s" * many), errors.BadStanding)
                     self.check(reach.row_to, (cabinet, "?" * many), errors.BadPattern)
                     self.check(counts.count_to, (cabinet, 1, "?" * many), errors.BadPattern)
                     self.check(forces.force, (cabinet, "?" * many), errors.BadPattern)
                     self.check(forces.plan_depth, (cabinet, "s" * many, ()), errors.BadPattern)
                     self.check(costs.cheapest, (cabinet, (1,) * many, "?" * drawers), errors.BadCosts)
+                    self.check(names.renamed, (cabinet, tuple(range(many))), errors.BadOrder)
             self.check(stuck.frozen, (cabinet, drawers), errors.BadDrawer)
             self.check(Desk(cabinet).pull, (drawers,), errors.BadDrawer)
             self.check(together.paper, (cabinet, (drawers,)), errors.BadSet)
+            self.check(seen.sure_pulls, (cabinet, [drawers]), errors.BadSeen)
 
 
 class TestNothingIsShared(unittest.TestCase):
@@ -195,17 +217,21 @@ class TestNothingIsShared(unittest.TestCase):
         self.assertEqual(ANY_VALUES, before)
 
     def test_lists_that_are_changed_afterwards(self):
-        pairs, told_tries = [(0, 1)], [("ss", 0, False)]
+        pairs, told_tries, things = [(0, 1)], [("ss", 0, False)], [None, 0]
         added = guards.guards(Cabinet(2, ()), pairs, 2)
         some = tries.possible(2, told_tries)
         every = tries.sure(2, told_tries)
+        sure, ends = seen.sure_pulls(ONE_OPEN, things), seen.stands_after(ONE_OPEN, things)
         pairs.clear()
         told_tries.clear()
+        things.reverse()
         self.assertEqual(added, [ONE_OPEN.bars])
         self.assertEqual(len(some), 8)
         self.assertEqual(every, [(0, "open", 1, "open")])
         self.assertEqual(guards.guards(Cabinet(2, ()), [(0, 1)], 2), added)
         self.assertEqual(tries.sure(2, [("ss", 0, False)]), every)
+        self.assertEqual((sure, ends), ((0, 0), ["ss"]))
+        self.assertEqual(seen.sure_pulls(ONE_OPEN, [None, 0]), sure)
 
 
 if __name__ == "__main__":

@@ -10,6 +10,8 @@ from drawerlocks.desks import Desk
 from drawerlocks.forces import force
 from drawerlocks.guards import guards
 from drawerlocks.likeness import alike
+from drawerlocks.names import renamed
+from drawerlocks.seen import fits_many
 from drawerlocks.texts import read
 from drawerlocks.together import paper
 from drawerlocks.tries import sure
@@ -39,6 +41,8 @@ WRONG_CALLS = {
     "TooMany": ((guards, Cabinet(5, ()), [], 2), (4,)),
     "Unlike": ((alike, FREE, STAIRS), ()),
     "BadCosts": ((cheapest, FREE, (1,), "oo"), ()),
+    "BadOrder": ((renamed, FREE, (0, 0)), ()),
+    "BadSeen": ((fits_many, FREE, [0, 2]), (1,)),
     "InvalidText": ((read, "drawers 2\nbar 0 open 0 shut"), (2, 4)),
 }
 
@@ -75,6 +79,7 @@ class TestErrors(unittest.TestCase):
                         self.assertEqual({field: getattr(error, field) for field in fields}, told)
 
     def test_wrong_calls(self):
+        self.assertEqual(set(WRONG_CALLS), {*PLAIN, *FIELDS})
         for name, (call, values) in WRONG_CALLS.items():
             with self.subTest(name=name):
                 error = raised(*call)

@@ -68,6 +68,24 @@ INTERFACE = {
     "costs": {
         "cheapest": ("cabinet", "costs", "pattern"),
     },
+    "rings": {
+        "ring_at": ("cabinet", "standing"),
+        "first_ring": ("cabinet",),
+        "longest_row": ("cabinet",),
+    },
+    "seen": {
+        "fits_many": ("cabinet", "seen"),
+        "first_fit": ("cabinet", "seen"),
+        "stands_after": ("cabinet", "seen"),
+        "sure_pulls": ("cabinet", "seen"),
+    },
+    "rests": {
+        "count_rest": ("cabinet", "length", "divisor"),
+    },
+    "names": {
+        "renamed": ("cabinet", "order"),
+        "keeping": ("cabinet",),
+    },
 }
 CLASSES = {
     ("cabinets", "Cabinet"): {
@@ -81,7 +99,7 @@ CLASSES = {
 # The builtins, and the methods of builtin values, that the package uses; LANGUAGE.md allows some more.
 BUILTINS = {
     "len", "range", "enumerate", "zip", "min", "max", "sum", "sorted", "int", "str", "bool", "list", "tuple", "dict",
-    "set", "isinstance", "any", "all", "property", "super", "ValueError",
+    "set", "isinstance", "any", "all", "reversed", "property", "super", "ValueError",
 }
 METHODS = {
     "append", "count", "extend", "get", "index", "items", "join", "pop", "setdefault", "split", "update", "values",

@@ -1,15 +1,21 @@
 """Promises 13 and 20: what holds of several functions together, over many cabinets, each also with a bar less."""
 
+import random
 import unittest
 
 from drawerlocks.cabinets import Cabinet, barring, can
 from drawerlocks.costs import cheapest
 from drawerlocks.counts import count_rows, count_to
 from drawerlocks.forces import force
+from drawerlocks.guards import guards
 from drawerlocks.likeness import alike, fewest_bars, needless
-from drawerlocks.reach import reached, right_row, row_to
-from drawerlocks.stuck import dead_end, no_return
-from drawerlocks.together import most_open, open_together, paper, right_paper
+from drawerlocks.names import keeping, renamed
+from drawerlocks.reach import farthest, reached, right_row, row_between, row_to
+from drawerlocks.rests import count_rest
+from drawerlocks.rings import first_ring, longest_row, ring_at
+from drawerlocks.seen import fits_many, stands_after
+from drawerlocks.stuck import dead_end, frozen, never_opened, no_return
+from drawerlocks.together import most_open, never_together, open_together, paper, right_paper
 from samples import CABINETS
 from slow import all_patterns, all_rows, all_sets, all_standings, chosen_cabinets, some_cabinets
 
@@ -94,6 +100,40 @@ class TestWhatHolds(unittest.TestCase):
                     self.assertEqual(count_rows(cabinet, length), sum(told))
 
 
+def length_of(row):
+    return None if row is None else len(row)
+
+
+def numbers(cabinet, names):
+    """What the functions tell by numbers; names are the new drawers' first names, told values go by the first ones."""
+
+    def anew(things):
+        return [things[name] for name in names]
+
+    drawers, first = cabinet.drawers, "s" * cabinet.drawers
+    pattern = "".join(anew("?o?s?o?"[:drawers]))
+    standing = "".join(anew("osoosos"[:drawers]))
+    costs = tuple(anew((3, 0, 10 ** 30, 7, 1, 1, 2)[:drawers]))
+    drawer = names.index(drawers // 2)
+    some = tuple(sorted((names.index(0), names.index(drawers - 1)))) if drawers > 1 else (0,)
+    seen = [None, names.index(0), None, None, drawer, None]
+    ring, longest, cheap = first_ring(cabinet), longest_row(cabinet), cheapest(cabinet, costs, pattern)
+    told = [
+        len(can(cabinet, first)), len(barring(cabinet, standing, drawer)), len(reached(cabinet)), farthest(cabinet)[0],
+        length_of(row_to(cabinet, pattern)), length_of(row_between(cabinet, standing, pattern)),
+        length_of(open_together(cabinet, some)), len(never_together(cabinet)), most_open(cabinet)[0],
+        length_of(dead_end(cabinet)), length_of(no_return(cabinet)), length_of(frozen(cabinet, drawer)),
+        len(never_opened(cabinet)), len(needless(cabinet)), len(fewest_bars(cabinet)), count_rows(cabinet, 9),
+        count_to(cabinet, 9, pattern), force(cabinet, pattern), None if cheap is None else (cheap[0], len(cheap[1])),
+        length_of(ring_at(cabinet, standing)), None if ring is None else (len(ring[0]), len(ring[1])),
+        None if longest is None else longest[0], fits_many(cabinet, seen), len(stands_after(cabinet, seen)),
+        len(keeping(cabinet)),
+    ]
+    if drawers <= 3:
+        told.extend([count_rest(cabinet, 10 ** 30, 997), len(guards(cabinet, [some] if drawers > 1 else [], 1))])
+    return told
+
+
 class TestWhatHoldsFurther(unittest.TestCase):
 
     def test_force_is_never_less_than_the_number_of_pulls_of_row_to(self):
@@ -115,6 +155,45 @@ class TestWhatHoldsFurther(unittest.TestCase):
                     row = row_to(cabinet, pattern)
                     told = None if row is None else (len(row), row)
                     self.assertEqual(cheapest(cabinet, (1,) * cabinet.drawers, pattern), told)
+
+    def test_count_rest_is_the_rest_of_count_rows(self):
+        for cabinet in many_cabinets():
+            if cabinet.drawers <= 4:
+                for length, divisor in ((0, 1), (1, 2), (4, 5), (60, 10 ** 9), (59, 997)):
+                    with self.subTest(drawers=cabinet.drawers, bars=cabinet.bars, length=length, divisor=divisor):
+                        told = count_rows(cabinet, length) % divisor
+                        self.assertEqual(count_rest(cabinet, length, divisor), told)
+
+    def test_fits_many_of_nothing_seen_is_count_rows(self):
+        for cabinet in many_cabinets():
+            for length in (0, 1, 5, 60):
+                with self.subTest(drawers=cabinet.drawers, bars=cabinet.bars, length=length):
+                    self.assertEqual(fits_many(cabinet, [None] * length), count_rows(cabinet, length))
+                    self.assertEqual(fits_many(cabinet, (None,) * length), count_rows(cabinet, length))
+
+    def test_other_names_change_no_numbers(self):
+        chosen = random.Random(134)
+        more = (*chosen_cabinets(135, 5, 5, 30), *chosen_cabinets(136, 7, 1, 40))
+        for cabinet in (*CABINETS, *some_cabinets()[::2], *more):
+            names = tuple(range(cabinet.drawers))
+            told = numbers(cabinet, names)
+            for _ in range(3 if cabinet.drawers < 5 else 1):
+                order = tuple(chosen.sample(names, cabinet.drawers))
+                with self.subTest(drawers=cabinet.drawers, bars=cabinet.bars, order=order):
+                    self.assertEqual(numbers(renamed(cabinet, order), order), told)
+
+    def test_rings_have_an_even_number_of_pulls(self):
+        for cabinet in many_cabinets():
+            rings = [ring_at(cabinet, standing) for standing in all_standings(cabinet.drawers)]
+            found = first_ring(cabinet)
+            if found is not None:
+                self.assertIn(found[1], rings)
+            for ring in rings:
+                if ring is not None:
+                    with self.subTest(drawers=cabinet.drawers, bars=cabinet.bars, ring=ring):
+                        self.assertGreater(len(ring), 0)
+                        self.assertEqual(len(ring) % 2, 0)
+                        self.assertTrue(all(ring.count(drawer) % 2 == 0 for drawer in ring))
 
 
 if __name__ == "__main__":
